@@ -1,0 +1,1 @@
+"""Stagehall, layer c: fades."""
