@@ -5,9 +5,13 @@ from stagefades.stage import Stage
 CUE = 0
 GO = 1
 GOTO = 2
+AT = 3
+STAND = 4
+STILL = 5
+WHEN = 6
 
-# How many numbers a call has (cue, go, goto, at), with its own; of a cue, ahead of its moves.
-SIZES = (7, 2, 3, 3)
+# How many numbers a call has (cue, go, .. when, reset), with its own; of a cue, ahead of its moves.
+SIZES = (7, 2, 3, 3, 2, 1, 4, 1)
 
 
 def answers(calls):
@@ -33,11 +37,19 @@ def call_at(calls, place):
 
 
 def answer_to(stage, call):
-    """What the stage answers to a call; the one that is left at the end is at."""
+    """What the stage answers to a call; the one that is left at the end is reset."""
     if call[0] == CUE:
         return stage.add_cue(call[1], call[2:6], call[SIZES[CUE]:])
     if call[0] == GO:
         return stage.go(call[1])
     if call[0] == GOTO:
         return stage.goto(call[1], call[2])
-    return stage.at(call[1], call[2])
+    if call[0] == AT:
+        return stage.at(call[1], call[2])
+    if call[0] == STAND:
+        return stage.stand(call[1])
+    if call[0] == STILL:
+        return stage.still()
+    if call[0] == WHEN:
+        return stage.when(call[1], call[2], call[3])
+    return stage.reset()

@@ -4,7 +4,7 @@ None of these objects changes once it is made: so what would be, if nobody did a
 looked at without a change to what is.
 """
 
-from stagefades.quotients import between, is_below
+from stagefades.quotients import between, side_of
 
 
 class Fade:
@@ -23,6 +23,21 @@ class Fade:
             return (self.level, 1)
         return between(self.start, self.level, passed, self.length)
 
+    def is_changing(self):
+        """Whether it doesn't begin at its level."""
+        return self.start != (self.level, 1)
+
+    def first_off(self, side, time, level):
+        """The first whole time, from that one on, when it isn't on this side of the level; None, if there's none."""
+        if side_of(self.where(time), level) != side:
+            return time
+        if side_of((self.level, 1), level) == side:
+            return None
+        upper, lower = self.start
+        # It's there when passed by length is (level - start) by (its own level - start), rounded up.
+        passed = -(-self.length * (level * lower - upper) // (self.level * lower - upper))
+        return self.begin + passed
+
 
 class Order:
     """What a channel is told: to go to a level, from a time on, in one of two lengths."""
@@ -35,7 +50,7 @@ class Order:
 
     def fade_from(self, start):
         """The fade that begins with this order where the channel is then."""
-        length = self.up if is_below(start, self.level) else self.down
+        length = self.up if side_of(start, self.level) < 0 else self.down
         return Fade(self.begin, start, self.level, length)
 
 
@@ -52,9 +67,9 @@ class Channel:
             return self.fade
         return self.order.fade_from(self.fade.where(self.order.begin))
 
-    def where(self, time):
-        """The quotient at a time, not before it was told last."""
-        return self.fade_at(time).where(time)
+    def last_fade(self):
+        """The fade that it's in for good, if it's told nothing more."""
+        return self.fade if self.order is None else self.fade_at(self.order.begin)
 
     def told(self, time, order):
         """The channel when it's told an order at a time; an order that still waits is lost."""

@@ -10,10 +10,13 @@ def common_divisor(one, other):
     return one
 
 
-def is_below(quotient, level):
-    """Whether the quotient is less than the whole number."""
+def side_of(quotient, level):
+    """-1 if the quotient is less than the whole number, 0 if it's equal, 1 if it's more."""
     upper, lower = quotient
-    return upper < level * lower
+    reach = level * lower
+    if upper == reach:
+        return 0
+    return -1 if upper < reach else 1
 
 
 def between(start, level, part, whole):

@@ -4,8 +4,9 @@ The calls give back the list of what they answer. A place is a cue's place among
 on; 0 is the place ahead of the first.
 """
 
-from stagefades.cuesheet import CHANNELS, can_be_cue, cue_behind, dark_look
+from stagefades.cuesheet import CHANNELS, TOP_LEVEL, can_be_cue, cue_behind, dark_look
 from stagefades.fades import channel_at_rest
+from stagefades.paths import Path
 
 MOST_CUES = 24
 LAST_TIME = 1000000
@@ -19,12 +20,7 @@ class Stage:
 
     def __init__(self):
         self.cues = []
-        self.channels = {}
-        for channel in range(1, CHANNELS + 1):
-            self.channels[channel] = channel_at_rest()
-        self.last_place = 0
-        self.last_time = 0
-        self.leads_on = False
+        self.reset()
 
     def add_cue(self, number, times, moves):
         """The call cue; times are up, down, delay and follow."""
@@ -63,18 +59,54 @@ class Stage:
 
     def at(self, time, channel):
         """The call at."""
-        if not self.can_be_time(time) or channel < 1 or channel > CHANNELS:
+        if not self.can_be_time(time) or not self.is_channel(channel):
             return [-1]
-        moved = self.channels[channel]
-        for begin, place in self.followed_by(time):
-            cue = self.cues[place - 1]
-            if channel in cue.moves:
-                moved = moved.told(begin, cue.order_at(begin, cue.moves[channel]))
-        return list(moved.where(time))
+        return list(self.path_of(channel).where(time))
+
+    def stand(self, time):
+        """The call stand."""
+        if not self.can_be_time(time):
+            return [-1]
+        place = self.place_at(time)
+        number = self.cues[place - 1].number if place > 0 else 0
+        for begin, follower in self.all_that_follow():
+            if begin > time:
+                return [number, 1, begin]
+        return [number, 0]
+
+    def still(self):
+        """The call still."""
+        time = self.last_time
+        for begin, place in self.all_that_follow():
+            time = begin
+        for channel in self.channels:
+            time = self.path_of(channel).last_change(time)
+        return [time]
+
+    def when(self, time, channel, level):
+        """The call when."""
+        if not self.can_be_time(time) or not self.is_channel(channel) or level > TOP_LEVEL:
+            return [-1]
+        found = self.path_of(channel).first_beyond(time, level)
+        return [-3] if found is None else [found]
+
+    def reset(self):
+        """The call reset; a new stage begins with it, too."""
+        self.channels = {}
+        for channel in range(1, CHANNELS + 1):
+            self.channels[channel] = channel_at_rest()
+        self.last_place = 0
+        self.last_time = 0
+        self.leads_on = False
+        return [0]
 
     def can_be_time(self, time):
         """Whether a call may tell this time."""
         return self.last_time <= time <= LAST_TIME
+
+    def is_channel(self, channel):
+        """Whether there's such a channel."""
+        return 1 <= channel <= CHANNELS
 
     def place_of(self, number):
         """The place of the cue with this number; 0, if there's none."""
@@ -104,6 +136,18 @@ class Stage:
             entries.append((time, place))
             leads_on = self.is_followed(place)
         return entries
+
+    def path_of(self, channel):
+        """What the channel goes through from the last go by a call on, if nobody does anything."""
+        moved = self.channels[channel]
+        fades = [moved.fade_at(self.last_time)]
+        for begin, place in self.all_that_follow():
+            cue = self.cues[place - 1]
+            if channel in cue.moves:
+                moved = moved.told(begin, cue.order_at(begin, cue.moves[channel]))
+                fades.append(moved.fade)
+        fades.append(moved.last_fade())
+        return Path(fades)
 
     def is_followed(self, place):
         """Whether the cue of this place has a follow, and now a cue behind it."""

@@ -112,7 +112,8 @@ class CallAtThatTimeTest(unittest.TestCase):
 
     def test_the_last_go_told_isnt_one_that_followed(self):
         calls = [*chain(5, 5, 0), go(3)]
-        self.assertEqual(ask(*calls, at(100, 1), at(3, 1), at(2, 1), go(2), go(3))[4:], [[30, 1], [10, 1], [-1], [-1], [2]])
+        found = ask(*calls, at(100, 1), at(3, 1), at(2, 1), go(2), go(3))[4:]
+        self.assertEqual(found, [[30, 1], [10, 1], [-1], [-1], [2]])
 
 
 class AddedLaterTest(unittest.TestCase):

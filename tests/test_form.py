@@ -78,10 +78,12 @@ class FormTest(unittest.TestCase):
 
     def test_names(self):
         for path, tree in trees():
-            bound = {node.id for node in ast.walk(tree) if isinstance(node, ast.Name) and isinstance(node.ctx, ast.Store)}
-            bound |= {node.arg for node in ast.walk(tree) if isinstance(node, ast.arg)}
-            bound |= {node.name for node in ast.walk(tree) if isinstance(node, (ast.FunctionDef, ast.ClassDef, ast.alias))}
-            read = {node.id for node in ast.walk(tree) if isinstance(node, ast.Name)}
+            nodes = list(ast.walk(tree))
+            named = (ast.FunctionDef, ast.ClassDef, ast.alias)
+            bound = {node.id for node in nodes if isinstance(node, ast.Name) and isinstance(node.ctx, ast.Store)}
+            bound |= {node.arg for node in nodes if isinstance(node, ast.arg)}
+            bound |= {node.name for node in nodes if isinstance(node, named)}
+            read = {node.id for node in nodes if isinstance(node, ast.Name)}
             self.assertLessEqual(read - bound, OWN_NAMES, path)
             self.assertEqual(bound & set(dir(__import__("builtins"))) - METHODS, set(), path)
             self.assertEqual([name for name in bound - METHODS if name.startswith("_")], [], path)

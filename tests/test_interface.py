@@ -32,6 +32,27 @@ class FormTest(unittest.TestCase):
         self.assertEqual(answers([2, 0, 0]), [1, -4])
         self.assertEqual(answers([3, 0, 1]), [2, 0, 1])
         self.assertEqual(answers([3, 0, 0]), [1, -1])
+        self.assertEqual(answers([4, 0]), [2, 0, 0])
+        self.assertEqual(answers([4, 1000001]), [1, -1])
+        self.assertEqual(answers([5]), [1, 0])
+        self.assertEqual(answers([6, 7, 1, 0]), [1, 7])
+        self.assertEqual(answers([6, 7, 1, 1]), [1, -3])
+        self.assertEqual(answers([6, 7, 65, 0]), [1, -1])
+        self.assertEqual(answers([7]), [1, 0])
+
+    def test_all_calls_behind_one_another(self):
+        calls = [
+            0, 5, 4, 0, 0, 6, 2, 1, 80, 0, 7, 0, 0, 0, 0, 0, 1, 10, 4, 10, 4, 16, 5, 6, 10, 1, 30, 3, 12, 1, 7, 5, 4, 3,
+        ]
+        self.assertEqual(answers(calls), [
+            1, 1, 1, 2, 1, 5, 3, 5, 1, 16, 2, 7, 0, 1, 16, 1, 12, 2, 40, 1, 1, 0, 1, 0, 2, 0, 0,
+        ])
+
+    def test_the_largest_numbers(self):
+        top = 4294967295
+        first = [0, top, top, top, top, top, 2, top, top]
+        calls = [first, [1, top], [2, top, top], [3, top, top], [4, top], [6, top, top, top]]
+        self.assertEqual(answers(flat(calls)), [1, -1] * 6)
 
     def test_200_numbers_of_moves(self):
         moves = flat([channel, 1] for channel in range(1, 101))
@@ -39,6 +60,7 @@ class FormTest(unittest.TestCase):
 
     def test_400_calls(self):
         self.assertEqual(answers([3, 1000000, 64] * 400), [2, 0, 1] * 400)
+        self.assertEqual(answers([4, 1000000, 5, 6, 1000000, 64, 0, 7] * 100), [2, 0, 0, 1, 0, 1, 1000000, 1, 0] * 100)
 
     def test_plain_lists_of_whole_numbers(self):
         found = answers(flat(Chance(1).calls(100)))

@@ -4,7 +4,7 @@ import unittest
 from fractions import Fraction
 from math import gcd
 
-from stagefades.quotients import between, common_divisor, is_below
+from stagefades.quotients import between, common_divisor, side_of
 
 
 class QuotientTest(unittest.TestCase):
@@ -13,11 +13,10 @@ class QuotientTest(unittest.TestCase):
             for other in range(30):
                 self.assertEqual(common_divisor(one, other), gcd(one, other))
 
-    def test_is_below(self):
-        self.assertTrue(is_below((1, 3), 1))
-        self.assertFalse(is_below((1, 1), 1))
-        self.assertFalse(is_below((4, 3), 1))
-        self.assertFalse(is_below((0, 1), 0))
+    def test_side_of(self):
+        self.assertEqual([side_of((1, 3), 1), side_of((0, 1), 1), side_of((299, 3), 100)], [-1, -1, -1])
+        self.assertEqual([side_of((0, 1), 0), side_of((1, 1), 1), side_of((100, 1), 100)], [0, 0, 0])
+        self.assertEqual([side_of((1, 3), 0), side_of((4, 3), 1), side_of((100, 1), 99)], [1, 1, 1])
 
     def test_between_is_exact_and_in_lowest_terms(self):
         starts = sorted({Fraction(upper, lower) for upper in range(0, 40, 3) for lower in (1, 2, 3, 4, 6, 9, 12, 36)})
